@@ -1,0 +1,1 @@
+"""Promises that pay: written, read, tidied, tried, signed and worked out day by day."""

@@ -1,0 +1,349 @@
+"""Talks to the desk in words, and a second telling of the document to hold its answers against."""
+
+import re
+
+from payingpromises.desk import answers
+
+NUMBERS = {
+    "begin": 0, "read": 1, "write": 2, "about": 3, "tidy": 4, "same": 5, "make": 6, "trial": 7,
+    "sign": 8, "deal": 9, "items": 10, "item": 11, "see": 12,
+}
+BOTH, OR, TURN, TIMES, AT, ANY = range(6)
+ZEROS = [0] * 8
+
+
+def raw(text):
+    return list(text.encode("latin-1"))
+
+
+def told(calls):
+    """Calls such as ("read", "one(A)") in one list of whole numbers."""
+    numbers = []
+    for call in calls:
+        numbers.append(NUMBERS[call[0]])
+        for given in call[1:]:
+            row = raw(given) if isinstance(given, str) else given
+            if isinstance(row, list):
+                numbers.append(len(row))
+                numbers.extend(row)
+            else:
+                numbers.append(row)
+    return numbers
+
+
+def split(answered):
+    """The one list of answers as a list for each call."""
+    parted = []
+    place = 0
+    while place < len(answered):
+        count = answered[place]
+        parted.append(answered[place + 1:place + 1 + count])
+        assert len(parted[-1]) == count, "the list of answers ends too early"
+        place += 1 + count
+    return parted
+
+
+def ask(*calls):
+    """What each of these calls answers, with a begin of three parties ahead that isn't told."""
+    parted = split(answers(told((("begin", 3),) + calls)))
+    assert parted[0] == [0] and len(parted) == len(calls) + 1
+    return parted[1:]
+
+
+def last(*calls):
+    return ask(*calls)[-1]
+
+
+def written(*calls):
+    """The text of what the last of these calls put on the shelf."""
+    number = last(*calls)[0]
+    assert number >= 0, number
+    answer = last(*calls, ("write", number))
+    assert answer[0] == len(answer) - 1
+    return bytes(answer[1:]).decode("ascii")
+
+
+def item_of(answer):
+    """An item's answer with its text as a text."""
+    return tuple(answer[:4]) + (bytes(answer[4:]).decode("ascii"),)
+
+
+# From here on: the document told once more, by recursion over nested tuples.
+
+PARTS = {
+    "one": "u", "both": "cc", "or": "cc", "turn": "c", "times": "xc", "if": "pcc", "at": "dc",
+    "when": "dpc", "any": "dc", "le": "xx", "lt": "xx", "not": "p", "all": "pp", "some": "pp",
+    "add": "xx", "sub": "xx", "mul": "xx",
+}
+SORTS = {
+    "c": ("one", "both", "or", "turn", "times", "if", "at", "when", "any"),
+    "p": ("le", "lt", "not", "all", "some"), "x": ("add", "sub", "mul"), "d": (), "u": (),
+}
+SINGLE = {
+    "c": r"nothing", "u": r"[A-D]", "x": r"[a-h](?![a-z])|0(?![0-9])|-?[1-9][0-9]{0,8}(?![0-9])",
+    "d": r"1000(?![0-9])|0(?![0-9])|[1-9][0-9]{0,2}(?![0-9])", "p": r"(?!)",
+}
+
+
+def parse(text):
+    """Nested tuples, or None."""
+    if len(text) > 600:
+        return None
+    found = parse_part(text, 0, "c")
+    return found[0] if found and found[1] == len(text) else None
+
+
+def parse_part(text, place, sort):
+    for word in SORTS[sort]:
+        if text.startswith(word + "(", place):
+            parts, place = [word], place + len(word)
+            for mark, inner in zip("(,,", PARTS[word]):
+                if text[place:place + 1] != mark:
+                    return None
+                found = parse_part(text, place + 1, inner)
+                if not found:
+                    return None
+                parts.append(found[0])
+                place = found[1]
+            return (tuple(parts), place + 1) if text[place:place + 1] == ")" else None
+    found = re.compile(SINGLE[sort]).match(text, place)
+    return ((found.group(),), found.end()) if found else None
+
+
+def show(tree):
+    return tree[0] + ("(" + ",".join(map(show, tree[1:])) + ")" if len(tree) > 1 else "")
+
+
+def inside(tree):
+    yield tree
+    for part in tree[1:]:
+        yield from inside(part)
+
+
+def is_promise(tree):
+    return tree[0] == "nothing" or tree[0] in SORTS["c"]
+
+
+def names_in(tree):
+    return {"abcdefgh".index(part[0]) for part in inside(tree) if part[0] in tuple("abcdefgh")}
+
+
+def model_about(tree):
+    days = [int(part[1][0]) for part in inside(tree) if part[0] in ("at", "when", "any")]
+    plain = not any(part[0] in ("or", "any") for part in inside(tree))
+    return [sum(map(is_promise, inside(tree))), max(days, default=0),
+            sum(1 << name for name in names_in(tree)), int(plain)]
+
+
+def value_of(tree, values):
+    word = tree[0]
+    if word in tuple("abcdefgh"):
+        return values["abcdefgh".index(word)]
+    if len(tree) == 1:
+        return int(word)
+    parts = [value_of(part, values) for part in tree[1:]]
+    return {
+        "add": lambda x, y: x + y, "sub": lambda x, y: x - y, "mul": lambda x, y: x * y,
+        "le": lambda x, y: x <= y, "lt": lambda x, y: x < y, "not": lambda x: not x,
+        "all": lambda x, y: x and y, "some": lambda x, y: x or y,
+    }[word](*parts)
+
+
+def model_tidy(tree):
+    if len(tree) == 1:
+        return tree
+    word, nothing = tree[0], ("nothing",)
+    if word in SORTS["x"] and not names_in(tree) and abs(value_of(tree, ZEROS)) < 10 ** 9:
+        return (str(value_of(tree, ZEROS)),)
+    tree = (word,) + tuple(model_tidy(part) for part in tree[1:])
+    if word in ("turn", "not") and tree[1][0] == word:
+        return tree[1][1]
+    if word == "both" and nothing in tree[1:]:
+        return tree[2] if tree[1] == nothing else tree[1]
+    if word in ("or", "turn", "times", "at", "when", "any") and all(
+            part == nothing for part in tree[1:] if is_promise(part)):
+        return nothing
+    if word == "times" and tree[1] in (("0",), ("1",)):
+        return nothing if tree[1] == ("0",) else tree[2]
+    if word == "if" and tree[2] == tree[3]:
+        return tree[2]
+    if word == "at" and tree[2][0] == "at" and int(tree[2][1][0]) < int(tree[1][0]):
+        return nothing
+    return tree
+
+
+def model_trial(tree, k, day, values):
+    word = tree[0]
+    if word == "one":
+        return [(day, "ABCD".index(tree[1][0]), k)] if k else []
+    if word == "both":
+        return model_trial(tree[1], k, day, values) + model_trial(tree[2], k, day, values)
+    if word == "turn":
+        return model_trial(tree[1], -k, day, values)
+    if word == "times":
+        return model_trial(tree[2], k * value_of(tree[1], values), day, values)
+    if word == "if":
+        return model_trial(tree[2 if value_of(tree[1], values) else 3], k, day, values)
+    if word == "at" and day <= int(tree[1][0]):
+        return model_trial(tree[2], k, int(tree[1][0]), values)
+    if word == "when" and day <= int(tree[1][0]) and value_of(tree[2], values):
+        return model_trial(tree[3], k, day, values)
+    return []
+
+
+class TooMuch(Exception):
+    pass
+
+
+class Model:
+    """The object, call by call; answers as the desk does."""
+
+    def __init__(self):
+        self.begin(2)
+
+    def begin(self, n):
+        if not 2 <= n <= 6:
+            return [-22]
+        self.n, self.shelf, self.deals, self.open, self.paid = n, [], [], [], []
+        self.seen, self.day, self.given = {}, 0, 0
+        return [0]
+
+    def put(self, tree):
+        if len(self.shelf) == 16:
+            return [-28]
+        self.shelf.append(tree)
+        return [len(self.shelf) - 1]
+
+    def lacks(self, *numbers):
+        return any(number >= len(self.shelf) for number in numbers)
+
+    def read(self, text):
+        tree = parse(text)
+        return self.put(tree) if tree else [-71]
+
+    def write(self, c):
+        return [-2] if self.lacks(c) else [len(show(self.shelf[c]))] + raw(show(self.shelf[c]))
+
+    def about(self, c):
+        return [-2] if self.lacks(c) else model_about(self.shelf[c])
+
+    def tidy(self, c):
+        return [-2] if self.lacks(c) else self.put(model_tidy(self.shelf[c]))
+
+    def same(self, c, d):
+        return [-2] if self.lacks(c, d) else [int(self.shelf[c] == self.shelf[d])]
+
+    def make(self, kind, a, b, x):
+        if self.lacks(a) or kind in (BOTH, OR) and self.lacks(b):
+            return [-2]
+        if kind > ANY or kind == TIMES and abs(x) > 999999999 or kind in (AT, ANY) and not 0 <= x <= 1000:
+            return [-22]
+        first = self.shelf[a]
+        tree = {
+            BOTH: lambda: ("both", first, self.shelf[b]), OR: lambda: ("or", first, self.shelf[b]),
+            TURN: lambda: ("turn", first), TIMES: lambda: ("times", (str(x),), first),
+            AT: lambda: ("at", (str(x),), first), ANY: lambda: ("any", (str(x),), first),
+        }[kind]()
+        return [-33] if len(show(tree)) > 600 else self.put(tree)
+
+    def trial(self, c, day, values):
+        if self.lacks(c):
+            return [-2]
+        if day > 1000 or max(map(abs, values)) > 10 ** 6:
+            return [-22]
+        if not model_about(self.shelf[c])[3]:
+            return [-33]
+        paid = model_trial(self.shelf[c], 1, day, values)
+        if len(paid) > 400 or any(abs(much) > 10 ** 12 for day, unit, much in paid):
+            return [-75]
+        return [len(paid)] + [number for payment in paid for number in payment]
+
+    def sign(self, holder, other, c):
+        if self.lacks(c):
+            return [-2]
+        if holder >= self.n or other >= self.n or holder == other:
+            return [-22]
+        if len(self.deals) == 16:
+            return [-28]
+        before = self.kept()
+        self.deals.append((holder, other, self.day))
+        return self.tried(before, lambda: self.work((None, len(self.deals) - 1, holder, other, 1, self.shelf[c])),
+                          len(self.deals) - 1)
+
+    def deal(self, k):
+        if k >= len(self.deals):
+            return [-2]
+        return [0, *self.deals[k], sum(item[1] == k for item in self.open)]
+
+    def items(self):
+        return [len(self.open)] + [item[0] for item in self.open]
+
+    def item(self, i):
+        for number, deal, holder, other, k, tree in self.open:
+            if number == i:
+                return [deal, holder, other, k] + raw(show(tree))
+        return [-2]
+
+    def see(self, o, value):
+        if o > 7 or abs(value) > 10 ** 6:
+            return [-22]
+        if o in self.seen:
+            return [-17]
+        before = self.kept()
+        self.seen[o] = value
+
+        def work_all():
+            for item in list(self.open):
+                self.open.remove(item)
+                self.work(item)
+            self.open.sort(key=lambda item: item[0])
+        return self.tried(before, work_all, 0)
+
+    def kept(self):
+        return list(self.deals), list(self.open), list(self.paid), dict(self.seen), self.given
+
+    def tried(self, before, change, answer):
+        try:
+            change()
+            if len(self.open) > 48 or len(self.paid) > 400:
+                raise TooMuch
+        except TooMuch:
+            self.deals, self.open, self.paid, self.seen, self.given = before
+            return [-75]
+        return [answer]
+
+    def sees(self, tree):
+        return all(name in self.seen for name in names_in(tree))
+
+    def worth(self, tree):
+        return value_of(tree, [self.seen.get(name, 0) for name in range(8)])
+
+    def work(self, item):
+        number, deal, holder, other, k, tree = item
+        if abs(k) > 10 ** 12:
+            raise TooMuch
+        word, parts = tree[0], tree[1:]
+        day = int(parts[0][0]) if word in ("at", "when", "any") else 1000
+        if word == "nothing" or self.day > day:
+            return
+        if word == "one":
+            if k:
+                self.paid.append((self.day, deal, (other, holder)[k < 0], (holder, other)[k < 0], parts[0][0], abs(k)))
+        elif word == "both":
+            self.work((None, deal, holder, other, k, parts[0]))
+            self.work((None, deal, holder, other, k, parts[1]))
+        elif word == "turn":
+            self.work((None, deal, other, holder, k, parts[0]))
+        elif word == "times" and self.sees(parts[0]):
+            self.work((None, deal, holder, other, k * self.worth(parts[0]), parts[1]))
+        elif word == "if" and self.sees(parts[0]):
+            self.work((None, deal, holder, other, k, parts[1 if self.worth(parts[0]) else 2]))
+        elif word == "at" and self.day == day:
+            self.work((None, deal, holder, other, k, parts[1]))
+        elif word == "when" and self.sees(parts[1]) and self.worth(parts[1]):
+            self.work((None, deal, holder, other, k, parts[2]))
+        else:
+            if number is None:
+                self.given += 1
+                number = self.given
+            self.open.append((number, deal, holder, other, k, tree))
