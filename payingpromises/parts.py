@@ -1,13 +1,12 @@
 """Promises and their parts. A part is never changed once it is put together."""
 
-from payingpromises.counting import combined
-from payingpromises.words import AMOUNTS, NAMES, PROMISES, UNITS
+from payingpromises.words import NAMES, PROMISES, UNITS
 
 
 class Part:
     """A promise, condition, amount, day or unit, and what is told of it.
 
-    value: a number, a day, which name, which unit; of an amount of numbers alone what it comes to.
+    value: a number, a day, which name, which unit.
     names: the names that stand in it, as bits. last: the greatest day told in it.
     size: how many promises it has in it, itself too. plain: neither or nor any stands in it.
     """
@@ -68,8 +67,6 @@ def joined(word, parts):
         whole.size = whole.size + 1
     if word == "or" or word == "any":
         whole.plain = False
-    if word in AMOUNTS and whole.names == 0:
-        whole.value = combined(word, parts[0].value, parts[1].value)
     return whole
 
 

@@ -1,6 +1,7 @@
 """Promises made shorter that pay the same."""
 
 from payingpromises.bounds import is_short
+from payingpromises.counting import combined
 from payingpromises.parts import inner_first, joined, number_part
 from payingpromises.words import AMOUNTS
 
@@ -50,10 +51,12 @@ def is_nothing(promise):
 
 
 def tidied_amount(word, parts):
-    amount = joined(word, parts)
-    if amount.names == 0 and is_short(amount.value):
-        return number_part(amount.value)
-    return amount
+    # A part that is too long for a number has stayed as it is, and so must what it stands in.
+    if parts[0].word == "number" and parts[1].word == "number":
+        number = combined(word, parts[0].value, parts[1].value)
+        if is_short(number):
+            return number_part(number)
+    return joined(word, parts)
 
 
 def tidied_both(parts):

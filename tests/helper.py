@@ -153,9 +153,11 @@ def model_tidy(tree):
     if len(tree) == 1:
         return tree
     word, nothing = tree[0], ("nothing",)
-    if word in SORTS["x"] and not names_in(tree) and abs(value_of(tree, ZEROS)) < 10 ** 9:
-        return (str(value_of(tree, ZEROS)),)
     tree = (word,) + tuple(model_tidy(part) for part in tree[1:])
+    if word in SORTS["x"]:
+        alone = all(len(part) == 1 and not names_in(part) for part in tree[1:])
+        number = value_of(tree, ZEROS)
+        return (str(number),) if alone and abs(number) < 10 ** 9 else tree
     if word in ("turn", "not") and tree[1][0] == word:
         return tree[1][1]
     if word == "both" and nothing in tree[1:]:

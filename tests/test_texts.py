@@ -185,10 +185,28 @@ class Tidy(unittest.TestCase):
         self.check("times(mul(add(99999,1),add(99999,1)),one(A))", "times(mul(100000,100000),one(A))")
         self.check("times(add(mul(99999,99999),add(2,3)),one(A))", "times(add(mul(99999,99999),5),one(A))")
 
-    def test_large_on_the_way_and_small_in_the_end(self):
-        self.check("times(sub(mul(99999,99999),mul(99999,99998)),one(A))", "times(99999,one(A))")
-        self.check("times(sub(mul(99999,99999),mul(99999,99999)),one(A))", "nothing")
-        self.check("times(mul(mul(999999999,999999999),0),one(A))", "nothing")
+    def test_large_on_the_way_and_small_in_the_end_stays(self):
+        for text in (
+            "times(sub(add(999999999,1),1),one(A))",
+            "times(sub(mul(99999,99999),mul(99999,99998)),one(A))",
+            "times(sub(mul(99999,99999),mul(99999,99999)),one(A))",
+            "times(mul(mul(999999999,999999999),0),one(A))",
+            "times(mul(0,mul(999999999,999999999)),one(A))",
+            "times(add(sub(-999999999,1),2),one(D))",
+            "if(le(sub(add(999999999,1),1),0),one(A),one(B))",
+        ):
+            self.check(text, text)
+
+    def test_beside_what_is_too_long(self):
+        self.check("times(sub(add(999999999,1),add(1,2)),one(A))", "times(sub(add(999999999,1),3),one(A))")
+        self.check("times(mul(sub(2,2),mul(add(1,2),500000000)),one(A))", "times(mul(0,mul(3,500000000)),one(A))")
+        self.check("both(times(sub(add(999999999,1),1),one(A)),times(sub(2,2),one(B)))",
+                   "times(sub(add(999999999,1),1),one(A))")
+
+    def test_worked_out_it_is_exact_however_large(self):
+        text = "times(sub(add(999999999,1),1),one(A))"
+        found = ask(("read", text), ("tidy", 0), ("trial", 0, 0, [0] * 8), ("trial", 1, 0, [0] * 8))
+        self.assertEqual(found[2:], [[1, 0, 0, 999999999]] * 2)
 
     def test_conditions(self):
         self.check("if(not(not(le(a,b))),one(A),nothing)", "if(le(a,b),one(A),nothing)")
