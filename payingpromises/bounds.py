@@ -6,6 +6,7 @@ MOST_SHELVED = 16
 MOST_DEALS = 16
 MOST_ITEMS = 48
 MOST_PAYMENTS = 400
+MOST_UNDONE = 32
 # How often something is had, or how much is paid, either way.
 MOST_AMOUNT = 1000000000000
 

@@ -8,12 +8,16 @@ from payingpromises.words import NAMES
 
 
 class Deal:
-    """A promise signed by its holder and the other side on some day; over once both ended it."""
+    """A promise signed by its holder and the other side on some day.
 
-    def __init__(self, holder, other, day, over):
+    wanting: the side that last wanted it ended, None if neither does. over: whether both did.
+    """
+
+    def __init__(self, holder, other, day, wanting, over):
         self.holder = holder
         self.other = other
         self.day = day
+        self.wanting = wanting
         self.over = over
 
 
@@ -34,6 +38,14 @@ class Item:
         self.looked = -1
 
 
+def item_between(item, holder, other):
+    """The item as it is, but between these."""
+    same = Item(item.deal, holder, other, item.times, item.promise)
+    same.number = item.number
+    same.looked = item.looked
+    return same
+
+
 class Payment:
     """So much of a unit, above 0, that came of a deal on some day."""
 
@@ -49,7 +61,7 @@ class Payment:
 class State:
     """pending: the items, by rising number. numbered: how many numbers items have been given.
 
-    seen: the names whose values are seen today, as bits. worths: the values, by name.
+    seen: the names whose values are seen today, as bits. worths: the values, by name, of those alone.
     """
 
     def __init__(self, parties):

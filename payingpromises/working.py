@@ -29,18 +29,41 @@ def work_out(state, items):
     return len(state.pending) <= MOST_ITEMS and len(state.payments) <= MOST_PAYMENTS
 
 
+def work_out_all(state):
+    """Works all items out that pend. False: that is too much."""
+    items = state.pending
+    state.pending = []
+    return work_out(state, items)
+
+
 def kept(state, item, number):
     """The item as it stays today, under this number."""
-    same = Item(item.deal, item.holder, item.other, item.times, item.promise)
+    same = had(item, item.promise)
     same.number = number
-    if item.promise.word == "when" and not waits(state, item.promise.parts[1]):
+    if item.promise.word == "when" and not waits(state, item):
         same.looked = state.day
     return same
 
 
-def waits(state, part):
-    """Whether a value isn't seen today whose name stands in an amount or condition."""
-    return (part.names & ~state.seen) != 0
+def waits(state, item):
+    return (names_measured(item.promise) & ~state.seen) != 0
+
+
+def names_measured(promise):
+    """The names that stand in the amount or condition of a times, an if or a when, as bits."""
+    if promise.word == "times" or promise.word == "if":
+        return promise.parts[0].names
+    if promise.word == "when":
+        return promise.parts[1].names
+    return 0
+
+
+def names_awaited(state):
+    """The names for whose values some item waits now, as bits."""
+    names = 0
+    for item in state.pending:
+        names = names | names_measured(item.promise)
+    return names & ~state.seen
 
 
 def what_comes(state, item):
@@ -59,7 +82,7 @@ def what_comes(state, item):
     if word == "turn":
         return [Item(item.deal, item.other, item.holder, item.times, parts[0])]
     if word == "times" or word == "if":
-        return None if waits(state, parts[0]) else what_is_measured(state, item)
+        return None if waits(state, item) else what_is_measured(state, item)
     return what_is_dated(state, item)
 
 
@@ -94,7 +117,7 @@ def what_is_dated(state, item):
         return []
     if word == "at" and state.day == last:
         return [had(item, parts[1])]
-    if word == "when" and item.looked < state.day and not waits(state, parts[1]):
+    if word == "when" and item.looked < state.day and not waits(state, item):
         if result_of(parts[1], state.worths):
             return [had(item, parts[2])]
     return None

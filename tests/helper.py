@@ -6,7 +6,9 @@ from payingpromises.desk import answers
 
 NUMBERS = {
     "begin": 0, "read": 1, "write": 2, "about": 3, "tidy": 4, "same": 5, "make": 6, "trial": 7,
-    "sign": 8, "deal": 9, "items": 10, "item": 11, "see": 12,
+    "sign": 8, "deal": 9, "items": 10, "item": 11, "see": 12, "choose": 13, "take": 14, "close": 15,
+    "day": 16, "pays": 17, "pay": 18, "balance": 19, "net": 20, "assign": 21, "cancel": 22, "undo": 23,
+    "redo": 24,
 }
 BOTH, OR, TURN, TIMES, AT, ANY = range(6)
 ZEROS = [0] * 8
@@ -193,12 +195,12 @@ def model_trial(tree, k, day, values):
     return []
 
 
-class TooMuch(Exception):
-    pass
+class Refused(Exception):
+    """Told by its number."""
 
 
 class Model:
-    """The object, call by call; answers as the desk does."""
+    """The object, call by call; answers as the desk does. What can be undone is kept as whole copies."""
 
     def __init__(self):
         self.begin(2)
@@ -207,14 +209,51 @@ class Model:
         if not 2 <= n <= 6:
             return [-22]
         self.n, self.shelf, self.deals, self.open, self.paid = n, [], [], [], []
-        self.seen, self.day, self.given = {}, 0, 0
+        self.seen, self.today, self.given, self.wants = {}, 0, 0, []
+        self.back, self.forth = [], []
         return [0]
 
+    def kept(self):
+        return (list(self.shelf), list(self.deals), list(self.open), list(self.paid), dict(self.seen), self.today,
+                self.given, list(self.wants))
+
+    def put_back(self, kept):
+        (self.shelf, self.deals, self.open, self.paid, self.seen, self.today, self.given, self.wants) = (
+            list(part) if isinstance(part, list) else dict(part) if isinstance(part, dict) else part for part in kept)
+
+    def change(self, does):
+        """Does it, or nothing if that is refused; what it gives back is answered."""
+        before = self.kept()
+        try:
+            answer = does()
+        except Refused as refused:
+            self.put_back(before)
+            return [refused.args[0]]
+        self.back = (self.back + [before])[-32:]
+        self.forth = []
+        return [answer]
+
+    def undo(self):
+        if not self.back:
+            return [-6]
+        self.forth.append(self.kept())
+        self.put_back(self.back.pop())
+        return [len(self.back)]
+
+    def redo(self):
+        if not self.forth:
+            return [-6]
+        self.back.append(self.kept())
+        self.put_back(self.forth.pop())
+        return [len(self.forth)]
+
     def put(self, tree):
-        if len(self.shelf) == 16:
-            return [-28]
-        self.shelf.append(tree)
-        return [len(self.shelf) - 1]
+        def does():
+            if len(self.shelf) == 16:
+                raise Refused(-28)
+            self.shelf.append(tree)
+            return len(self.shelf) - 1
+        return self.change(does)
 
     def lacks(self, *numbers):
         return any(number >= len(self.shelf) for number in numbers)
@@ -267,15 +306,18 @@ class Model:
             return [-22]
         if len(self.deals) == 16:
             return [-28]
-        before = self.kept()
-        self.deals.append((holder, other, self.day))
-        return self.tried(before, lambda: self.work((None, len(self.deals) - 1, holder, other, 1, self.shelf[c])),
-                          len(self.deals) - 1)
+
+        def does():
+            self.deals.append([0, holder, other, self.today])
+            self.work((None, len(self.deals) - 1, holder, other, 1, self.shelf[c]))
+            self.bounded()
+            return len(self.deals) - 1
+        return self.change(does)
 
     def deal(self, k):
         if k >= len(self.deals):
             return [-2]
-        return [0, *self.deals[k], sum(item[1] == k for item in self.open)]
+        return self.deals[k] + [sum(item[1] == k for item in self.open)]
 
     def items(self):
         return [len(self.open)] + [item[0] for item in self.open]
@@ -291,28 +333,126 @@ class Model:
             return [-22]
         if o in self.seen:
             return [-17]
-        before = self.kept()
-        self.seen[o] = value
 
-        def work_all():
-            for item in list(self.open):
-                self.open.remove(item)
-                self.work(item)
-            self.open.sort(key=lambda item: item[0])
-        return self.tried(before, work_all, 0)
+        def does():
+            self.seen[o] = value
+            self.work_all()
+            return 0
+        return self.change(does)
 
-    def kept(self):
-        return list(self.deals), list(self.open), list(self.paid), dict(self.seen), self.given
+    def choose(self, who, i, which):
+        return self.chosen("or", who, i, which, 1 + which)
 
-    def tried(self, before, change, answer):
-        try:
-            change()
-            if len(self.open) > 48 or len(self.paid) > 400:
-                raise TooMuch
-        except TooMuch:
-            self.deals, self.open, self.paid, self.seen, self.given = before
-            return [-75]
-        return [answer]
+    def take(self, who, i):
+        return self.chosen("any", who, i, 0, 2)
+
+    def chosen(self, word, who, i, which, place):
+        for item in self.open:
+            if item[0] == i:
+                if item[5][0] != word:
+                    return [-16]
+                if item[2] != who:
+                    return [-1]
+                if which > 1:
+                    return [-22]
+
+                def does():
+                    self.open.remove(item)
+                    self.work((None,) + item[1:5] + (item[5][place],))
+                    self.bounded()
+                    return 0
+                return self.change(does)
+        return [-2]
+
+    def close(self):
+        if self.today == 1000:
+            return [-28]
+
+        def does():
+            while any(item[5][0] == "or" for item in self.open):
+                self.open = [(None,) + item[1:5] + (item[5][1],) if item[5][0] == "or" else item for item in self.open]
+                self.work_all()
+            if self.awaited():
+                raise Refused(-61)
+            self.today += 1
+            self.seen = {}
+            self.work_all()
+            return self.today
+        return self.change(does)
+
+    def awaited(self):
+        measured = [item[5][{"times": 1, "if": 1, "when": 2}[item[5][0]]] for item in self.open
+                    if item[5][0] in ("times", "if", "when")]
+        return {name for tree in measured for name in names_in(tree)} - set(self.seen)
+
+    def day(self):
+        return [self.today, sum(1 << name for name in self.awaited()), len(self.back), len(self.forth)]
+
+    def pays(self):
+        return [len(self.paid)]
+
+    def pay(self, k):
+        return list(self.paid[k]) if k < len(self.paid) else [-2]
+
+    def gained(self, party, paid):
+        return [sum(much * ((party == taker) - (party == giver)) for day, deal, giver, taker, booked, much in paid
+                    if booked == unit) for unit in range(4)]
+
+    def balance(self, p):
+        return [-22] if p >= self.n else [0] + self.gained(p, self.paid)
+
+    def net(self, day):
+        if day > self.today:
+            return [-22]
+        paid = [payment for payment in self.paid if payment[0] == day]
+        return [0] + [gain for party in range(self.n) for gain in self.gained(party, paid)]
+
+    def assign(self, who, k, to):
+        if k >= len(self.deals):
+            return [-2]
+        over, holder, other, day = self.deals[k]
+        for number, holds in ((-22, to >= self.n), (-1, who not in (holder, other)), (-17, to in (holder, other)),
+                              (-16, over)):
+            if holds:
+                return [number]
+
+        def does():
+            swap = {who: to}
+            self.deals[k] = [0, swap.get(holder, holder), swap.get(other, other), day]
+            self.open = [
+                item if item[1] != k else item[:2] + (swap.get(item[2], item[2]), swap.get(item[3], item[3])) + item[4:]
+                for item in self.open]
+            self.wants = [want for want in self.wants if want[0] != k]
+            return 0
+        return self.change(does)
+
+    def cancel(self, who, k):
+        if k >= len(self.deals):
+            return [-2]
+        over, holder, other, day = self.deals[k]
+        for number, holds in ((-1, who not in (holder, other)), (-16, over), (-17, (k, who) in self.wants)):
+            if holds:
+                return [number]
+
+        def does():
+            self.wants.append((k, who))
+            if (k, holder) in self.wants and (k, other) in self.wants:
+                self.deals[k] = [1, holder, other, day]
+                self.open = [item for item in self.open if item[1] != k]
+                return 1
+            return 0
+        return self.change(does)
+
+    def bounded(self):
+        if len(self.open) > 48 or len(self.paid) > 400:
+            raise Refused(-75)
+
+    def work_all(self):
+        todo, self.open = self.open, []
+        for item in todo:
+            self.work(item)
+        self.open.sort(key=lambda item: item[0])
+        self.bounded()
 
     def sees(self, tree):
         return all(name in self.seen for name in names_in(tree))
@@ -323,14 +463,15 @@ class Model:
     def work(self, item):
         number, deal, holder, other, k, tree = item
         if abs(k) > 10 ** 12:
-            raise TooMuch
+            raise Refused(-75)
         word, parts = tree[0], tree[1:]
         day = int(parts[0][0]) if word in ("at", "when", "any") else 1000
-        if word == "nothing" or self.day > day:
+        if word == "nothing" or self.today > day:
             return
         if word == "one":
+            giver, taker = (holder, other) if k < 0 else (other, holder)
             if k:
-                self.paid.append((self.day, deal, (other, holder)[k < 0], (holder, other)[k < 0], parts[0][0], abs(k)))
+                self.paid.append((self.today, deal, giver, taker, "ABCD".index(parts[0][0]), abs(k)))
         elif word == "both":
             self.work((None, deal, holder, other, k, parts[0]))
             self.work((None, deal, holder, other, k, parts[1]))
@@ -340,7 +481,7 @@ class Model:
             self.work((None, deal, holder, other, k * self.worth(parts[0]), parts[1]))
         elif word == "if" and self.sees(parts[0]):
             self.work((None, deal, holder, other, k, parts[1 if self.worth(parts[0]) else 2]))
-        elif word == "at" and self.day == day:
+        elif word == "at" and self.today == day:
             self.work((None, deal, holder, other, k, parts[1]))
         elif word == "when" and self.sees(parts[1]) and self.worth(parts[1]):
             self.work((None, deal, holder, other, k, parts[2]))

@@ -2,9 +2,6 @@
 
 import unittest
 
-from payingpromises.deal_calls import tell_deal
-from payingpromises.holding import Desk
-from payingpromises.state import Deal
 from tests.helper import ask, item_of, last
 from tests.test_texts import deep
 
@@ -117,11 +114,19 @@ class TheDeal(unittest.TestCase):
         self.assertEqual(found[2], [0, 0, 1, 0, 1])
         self.assertEqual(item_of(found[3]), (0, 1, 0, 1, "any(3,one(A))"))
 
-    def test_over(self):
-        desk = Desk()
-        desk.now.deals = [Deal(2, 1, 7, True), Deal(1, 0, 8, False)]
-        self.assertEqual(tell_deal(desk, 0), [1, 2, 1, 7, 0])
-        self.assertEqual(tell_deal(desk, 1), [0, 1, 0, 8, 0])
+    def test_the_day_when_it_was_signed(self):
+        found = ask(("read", "any(9,one(A))"), ("sign", 2, 1, 0), ("close",), ("close",), ("sign", 1, 0, 0), ("close",),
+                    ("deal", 0), ("deal", 1))
+        self.assertEqual(found[6:], [[0, 2, 1, 0, 1], [0, 1, 0, 2, 1]])
+
+    def test_over_once_both_ended_it(self):
+        found = ask(("read", "any(9,one(A))"), ("close",), ("sign", 2, 1, 0), ("sign", 1, 0, 0), ("cancel", 1, 0), ("deal", 0),
+                    ("cancel", 2, 0), ("deal", 0), ("deal", 1))
+        self.assertEqual(found[4:], [[0], [0, 2, 1, 1, 1], [1], [1, 2, 1, 1, 0], [0, 1, 0, 1, 1]])
+
+    def test_not_over_when_no_item_of_it_is_left(self):
+        found = ask(("read", "any(0,one(A))"), ("sign", 2, 1, 0), ("close",), ("deal", 0))
+        self.assertEqual(found[3], [0, 2, 1, 0, 0])
 
     def test_no_such_one(self):
         self.assertEqual(ask(("deal", 0), ("deal", 4294967295)), [[-2], [-2]])
