@@ -20,6 +20,18 @@ class Make(unittest.TestCase):
         ):
             self.assertEqual(written(*SHELF, ("make", kind, 0, 1, x)), text)
 
+    def test_what_is_told_about_it(self):
+        for kind, x, about in (
+            (BOTH, 12, [4, 0, 0, 1]), (OR, 12, [4, 0, 0, 0]), (TURN, 12, [2, 0, 0, 1]), (TIMES, 12, [2, 0, 0, 1]),
+            (AT, 12, [2, 12, 0, 1]), (ANY, 12, [2, 12, 0, 0]),
+        ):
+            self.assertEqual(last(*SHELF, ("make", kind, 0, 1, x), ("about", 2)), about)
+
+    def test_made_it_pays_like_a_read_one(self):
+        for kind, x, paid in ((TIMES, 12, [1, 5, 0, 12]), (AT, 12, [1, 12, 0, 1]), (AT, 4, [0]), (TURN, 0, [1, 5, 0, -1]),
+                              (BOTH, 0, [2, 5, 0, 1, 5, 1, -1])):
+            self.assertEqual(last(*SHELF, ("make", kind, 0, 1, x), ("trial", 2, 5, [0] * 8)), paid)
+
     def test_first_and_second_in_their_order(self):
         self.assertEqual(written(*SHELF, ("make", BOTH, 1, 0, 0)), "both(turn(one(B)),one(A))")
         self.assertEqual(written(*SHELF, ("make", OR, 1, 1, 0)), "or(turn(one(B)),turn(one(B)))")
